@@ -1,0 +1,1 @@
+"""Programs that surely end, and touch only what they may."""
