@@ -58,3 +58,13 @@ def read_deed(reader):
     if deed.has_value():
         deed.value = read_value(reader)
     return deed
+
+
+def deed_numbers(deed):
+    """Give the deed as numbers, without its step."""
+    numbers = [deed.kind]
+    if deed.has_field():
+        numbers.append(deed.field)
+    if deed.has_value():
+        numbers.append(deed.value)
+    return numbers

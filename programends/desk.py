@@ -1,8 +1,11 @@
 """The one object that the calls are made on."""
 
-from programends.nearer import first_endless, most_deeds
-from programends.pieces import depth_of, read_program
+from programends.nearer import first_endless, is_accepted, most_deeds
+from programends.pieces import depth_of, numbers_joined, read_program
 from programends.reader import NotWhole
+from programends.runs import run_row
+from programends.slips import cleaned, read_recording, recording_numbers
+from programends.tables import places_changed, read_table
 from programends.touched import (
     fields_read,
     fields_written,
@@ -60,3 +63,61 @@ class Desk:
             if is_against(piece, rows, fields):
                 return [0, number]
         return [1]
+
+    def run_on(self, numbers):
+        """Answer the call run."""
+        try:
+            table = read_table(numbers)
+        except NotWhole:
+            return [-1]
+        run = run_row(self.program.row, table)
+        return [run.done, run.ended] + run.table.as_numbers()
+
+    def changed_on(self, numbers):
+        """Answer the call changed."""
+        try:
+            before = read_table(numbers)
+        except NotWhole:
+            return [-1]
+        behind = run_row(self.program.row, before).table
+        if len(behind.rows) != len(before.rows):
+            return [-4]
+        places = places_changed(before, behind)
+        answer = [len(places)]
+        for place, field in places:
+            answer.extend([place, field])
+        return answer
+
+    def join_program(self, numbers):
+        """Answer the call join."""
+        try:
+            added = read_program(numbers)
+        except NotWhole:
+            return [-1]
+        try:
+            joined = read_program(numbers_joined(self.program, added))
+        except NotWhole:
+            return [-6]
+        self.program = joined
+        return [len(joined.pieces), 1 if is_accepted(joined) else 0]
+
+    def clean(self, numbers):
+        """Answer the call clean."""
+        try:
+            deeds = read_recording(numbers)
+        except NotWhole:
+            return [-1]
+        fewer = cleaned(deeds)
+        return [len(deeds) - len(fewer)] + recording_numbers(fewer)
+
+    def same(self, recorded, numbers):
+        """Answer the call same."""
+        try:
+            deeds = read_recording(recorded)
+            table = read_table(numbers)
+        except NotWhole:
+            return [-1]
+        first = run_row(deeds, table)
+        second = run_row(cleaned(deeds), table)
+        alike = first.table.as_numbers() == second.table.as_numbers()
+        return [first.ended, second.ended, 1 if alike else 0]

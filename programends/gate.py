@@ -8,6 +8,11 @@ TOLD = 1
 TOUCHES = 2
 ENDS = 3
 ALLOWED = 4
+RUN = 5
+CHANGED = 6
+JOIN = 7
+CLEAN = 8
+SAME = 9
 
 
 def answers(calls):
@@ -36,4 +41,15 @@ def answer_call(desk, line):
     if call == ALLOWED:
         rows = line.take()
         return desk.allowed(rows, line.take_list())
-    raise NotImplementedError()
+    if call == RUN:
+        return desk.run_on(line.take_list())
+    if call == CHANGED:
+        return desk.changed_on(line.take_list())
+    if call == JOIN:
+        return desk.join_program(line.take_list())
+    if call == CLEAN:
+        return desk.clean(line.take_list())
+    if call == SAME:
+        recorded = line.take_list()
+        return desk.same(recorded, line.take_list())
+    raise ValueError()

@@ -4,6 +4,7 @@ from programends.deeds import DELETE, DOUBLE, DOWN, FIND, TOP, UP, Deed
 from programends.pieces import Loop, LoopToEnd
 
 ROUNDS_TO_END = 8
+MOST_ACCEPTED = 60
 
 
 def rest_behind_row(row):
@@ -72,3 +73,8 @@ def most_deeds_of_piece(piece):
     if isinstance(piece, LoopToEnd):
         return ROUNDS_TO_END * once
     return once
+
+
+def is_accepted(program):
+    """Tell whether the program surely ends, and does no more deeds than are accepted."""
+    return first_endless(program.pieces) is None and most_deeds(program.row) <= MOST_ACCEPTED

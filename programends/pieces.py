@@ -55,6 +55,12 @@ def read_program(numbers):
     return Program(list(numbers), row, pieces)
 
 
+def numbers_joined(first, second):
+    """Give the numbers of a program's pieces behind another's; they may be too many for one."""
+    count = first.numbers[0] + second.numbers[0]
+    return [count] + first.numbers[1:] + second.numbers[1:]
+
+
 def read_row(reader, pieces, depth):
     """Read a row that lies within so many loops and parts."""
     if depth > MOST_DEPTH:

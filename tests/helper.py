@@ -17,6 +17,31 @@ def allowed(rows, *fields):
     return [4, rows, len(fields), *fields]
 
 
+def run(numbers):
+    return [5, len(numbers), *numbers]
+
+
+def changed(numbers):
+    return [6, len(numbers), *numbers]
+
+
+def join(numbers):
+    return [7, len(numbers), *numbers]
+
+
+def clean(numbers):
+    return [8, len(numbers), *numbers]
+
+
+def same(numbers, more):
+    return [9, len(numbers), *numbers, len(more), *more]
+
+
+def table(*rows, cursor=0, clipboard=0):
+    """A table as numbers; a row is its three values."""
+    return [len(rows)] + [value for one in rows for value in one] + [cursor, clipboard]
+
+
 def ask(*calls):
     """The answers to the calls on one object, a list for each."""
     line = [number for call in calls for number in call]
@@ -91,3 +116,12 @@ def to_end(*pieces):
 
 def part(*pieces, field=0, value=1):
     return [3, field, value] + row(*pieces)
+
+
+def recording(*pieces):
+    """Deeds in a row: the same pieces, each without the 0 ahead of it and the step that it may have."""
+    deeds = []
+    for piece in pieces:
+        assert piece[0] == 0, "only deeds are recorded"
+        deeds.append(piece[1:4] if piece[1] in (3, 4, 9) else piece[1:])
+    return row(*deeds)
